@@ -1,0 +1,1 @@
+"""Marchmend: tests that go over a memory, and what they tell."""

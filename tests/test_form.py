@@ -1,0 +1,185 @@
+"""The form of the package's files: the small part of Python that they keep to."""
+
+import ast
+import builtins
+import pathlib
+import re
+import unittest
+
+PACKAGE = pathlib.Path(__file__).resolve().parent.parent / "marchmend"
+
+STATEMENTS = (ast.FunctionDef, ast.ClassDef, ast.ImportFrom, ast.Assign, ast.AugAssign, ast.If, ast.While, ast.For,
+              ast.Return, ast.Break, ast.Continue, ast.Pass, ast.Raise, ast.Try, ast.Expr)
+EXPRESSIONS = (ast.Constant, ast.List, ast.Tuple, ast.Dict, ast.Set, ast.BinOp, ast.UnaryOp, ast.BoolOp, ast.Compare,
+               ast.IfExp, ast.Call, ast.Attribute, ast.Subscript, ast.Slice, ast.Name, ast.ListComp, ast.JoinedStr,
+               ast.FormattedValue, ast.Lambda)
+BUILT_IN = """len range enumerate zip min max sum abs sorted reversed int str bool list tuple dict set frozenset
+    isinstance ord repr any all divmod Exception ValueError TypeError KeyError IndexError LookupError
+    ZeroDivisionError ArithmeticError OverflowError RuntimeError NotImplementedError AttributeError
+    StopIteration""".split()
+METHODS = """append clear copy count endswith extend find get index insert isalnum isalpha isdigit islower isspace
+    isupper items join keys ljust lower lstrip partition pop remove replace reverse rfind rjust rpartition rsplit
+    rstrip setdefault split splitlines startswith strip update upper values zfill bit_length""".split()
+DUNDERS = ("__init__", "__eq__", "__repr__", "__str__", "__len__")
+NEVER = ("register", "mro", "elements", "open", "input", "version_info", "with_traceback", "add_note")
+WORDS = re.compile(r"\b(type|typing|typing_extensions|enum|Enum|IntEnum|StrEnum|Flag|IntFlag|Generic|Protocol|ABC"
+                   r"|ABCMeta|namedtuple|NamedTuple|TypedDict|TYPE_CHECKING|abstractmethod)\b"
+                   r"|dataclass|overload|contextmanager")
+
+
+def faults_of_text(text):
+    faults = []
+    rows = text.split("\n")
+    if len(rows) > 401:
+        faults.append("more than 400 lines")
+    for number, row in enumerate(rows, start=1):
+        if len(row) > 120:
+            faults.append(f"{number}: too long")
+        if not all(" " <= sign <= "~" for sign in row):
+            faults.append(f"{number}: a sign that is not let in")
+        if WORDS.search(row):
+            faults.append(f"{number}: a word that is not let in")
+    return faults
+
+
+def fault_of_top(node):
+    if isinstance(node, ast.Assign):
+        return not isinstance(node.targets[0], ast.Name)
+    if isinstance(node, ast.Expr):
+        return not isinstance(node.value, ast.Constant)
+    return not isinstance(node, (ast.ImportFrom, ast.FunctionDef, ast.ClassDef))
+
+
+def fault_of_def(node):
+    given = node.args
+    return (bool(node.decorator_list or given.vararg or given.kwarg or given.kwonlyargs or given.posonlyargs)
+            or node.end_lineno - node.lineno + 1 > 40)
+
+
+def fault_of_class(node):
+    return (bool(node.decorator_list or node.keywords) or len(node.bases) > 1
+            or not all(isinstance(part, (ast.FunctionDef, ast.Pass)) for part in node.body))
+
+
+def fault_of_import(node):
+    module = node.module or ""
+    own = node.level == 0 and module.startswith("marchmend.")
+    return not own or any(name.name == "*" or name.asname for name in node.names)
+
+
+def fault_of_is(node):
+    asked = any(isinstance(sign, (ast.Is, ast.IsNot)) for sign in node.ops)
+    return asked and not any(isinstance(side, ast.Constant) and side.value in (None, True, False)
+                             for side in [node.left] + node.comparators)
+
+
+def fault_of_constant(node):
+    return isinstance(node.value, (float, complex, bytes)) or isinstance(node.value, str) and "%" in node.value
+
+
+def fault_of_other(node):
+    if isinstance(node, ast.Assign):
+        return len(node.targets) != 1
+    if isinstance(node, (ast.For, ast.While)):
+        return bool(node.orelse)
+    if isinstance(node, ast.Try):
+        return bool(node.finalbody) or any(part.type is None for part in node.handlers)
+    if isinstance(node, ast.ListComp):
+        return len(node.generators) != 1 or len(node.generators[0].ifs) > 1
+    if isinstance(node, ast.BinOp):
+        return isinstance(node.op, (ast.Div, ast.MatMult))
+    if isinstance(node, (ast.arg, ast.FunctionDef)):
+        return bool(getattr(node, "annotation", None) or getattr(node, "returns", None))
+    return False
+
+
+CHECKS = ((ast.FunctionDef, fault_of_def), (ast.ClassDef, fault_of_class), (ast.ImportFrom, fault_of_import),
+          (ast.Compare, fault_of_is), (ast.Constant, fault_of_constant), (ast.AST, fault_of_other))
+
+
+def bound_in(tree):
+    names = []
+    for node in ast.walk(tree):
+        if isinstance(node, (ast.FunctionDef, ast.ClassDef)):
+            names.append(node.name)
+        if isinstance(node, ast.arg):
+            names.append(node.arg)
+        if isinstance(node, ast.Name) and isinstance(node.ctx, ast.Store):
+            names.append(node.id)
+        if isinstance(node, ast.Attribute) and isinstance(node.ctx, ast.Store):
+            names.append(node.attr)
+        if isinstance(node, ast.ExceptHandler) and node.name:
+            names.append(node.name)
+    return names
+
+
+def faults_of_names(tree, methods):
+    faults = []
+    for name in bound_in(tree):
+        if name not in DUNDERS and (not re.fullmatch("[A-Za-z][A-Za-z0-9_]*", name) or name in NEVER):
+            faults.append(f"{name}: no plain name")
+    for node in ast.walk(tree):
+        if isinstance(node, ast.Name) and node.id in dir(builtins) and node.id not in BUILT_IN:
+            faults.append(f"{node.lineno}: {node.id}")
+        if isinstance(node, ast.Call) and isinstance(node.func, ast.Attribute):
+            if node.func.attr not in METHODS + methods + ["__init__"]:
+                faults.append(f"{node.lineno}: .{node.func.attr}()")
+    tops = [node.name for node in tree.body if isinstance(node, (ast.FunctionDef, ast.ClassDef))]
+    tops += [node.targets[0].id for node in tree.body if isinstance(node, ast.Assign)]
+    if len(tops) != len(set(tops)):
+        faults.append("a name bound twice at the top")
+    return faults
+
+
+def own_methods(tree):
+    return [part.name for node in ast.walk(tree) if isinstance(node, ast.ClassDef)
+            for part in node.body if isinstance(part, ast.FunctionDef)]
+
+
+def faults_of(text, methods=()):
+    faults = faults_of_text(text)
+    tree = ast.parse(text)
+    faults += [f"{node.lineno}: not at a file's top" for node in tree.body if fault_of_top(node)]
+    for node in ast.walk(tree):
+        place = getattr(node, "lineno", None)
+        if isinstance(node, ast.stmt) and not isinstance(node, STATEMENTS):
+            faults.append(f"{place}: {node.__class__.__name__}")
+        if isinstance(node, ast.expr) and not isinstance(node, EXPRESSIONS):
+            faults.append(f"{place}: {node.__class__.__name__}")
+        for kind, check in CHECKS:
+            if isinstance(node, kind) and check(node):
+                faults.append(f"{place}: {check.__name__} of {node.__class__.__name__}")
+    return faults + faults_of_names(tree, list(methods) + own_methods(tree))
+
+
+class Form(unittest.TestCase):
+    def test_the_folder_holds_plain_files_alone(self):
+        found = [path for path in PACKAGE.iterdir() if path.name != "__pycache__"]
+        self.assertIn(PACKAGE / "__init__.py", found)
+        for path in found:
+            self.assertTrue(path.is_file())
+            self.assertRegex(path.name, r"\A(__init__|__main__|[a-z][a-z0-9_]*)\.py\Z")
+
+    def test_each_file_keeps_to_the_form(self):
+        texts = {path.name: path.read_bytes().decode("ascii") for path in PACKAGE.glob("*.py")}
+        methods = [name for text in texts.values() for name in own_methods(ast.parse(text))]
+        for name, text in sorted(texts.items()):
+            with self.subTest(name):
+                self.assertEqual([], faults_of(text, methods))
+
+    def test_what_is_outside_the_form_is_seen(self):
+        outside = ["import os", "from os import path", "from marchmend.errors import *", "x = 1.5", "x = b''",
+                   "x = 1\nx = 2", "print(1)", "x = open", "# some type", "x = '\t'", "def f(*a):\n    pass",
+                   "def f(a: int):\n    pass", "def f():\n    assert True", "def f():\n    yield 1",
+                   "def f(a):\n    return a / 2", "def f(a):\n    return {b for b in a}", "class A:\n    x = 1",
+                   "def f(a):\n    return a is 5", "def f(a):\n    a.sort()", "def f(_a):\n    pass",
+                   "def f(a):\n    a.elements = 1", "def f(a):\n    b = c = a", "x = 1 # " + "x" * 120,
+                   "def f():\n" + "    pass\n" * 40, "x = '%'", "def f():\n    while True:\n        pass\n    else:\n"
+                   "        pass", "def f():\n    try:\n        pass\n    except:\n        pass", "x = (y := 1)"]
+        for text in outside:
+            with self.subTest(text):
+                self.assertNotEqual([], faults_of(text))
+
+
+if __name__ == "__main__":
+    unittest.main()
