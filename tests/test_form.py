@@ -79,7 +79,7 @@ def fault_of_constant(node):
 
 def fault_of_other(node):
     if isinstance(node, ast.Assign):
-        return len(node.targets) != 1
+        return len(node.targets) != 1 or isinstance(node.targets[0], (ast.Tuple, ast.List))
     if isinstance(node, (ast.For, ast.While)):
         return bool(node.orelse)
     if isinstance(node, ast.Try):
@@ -131,6 +131,69 @@ def faults_of_names(tree, methods):
     return faults
 
 
+def called(node, names):
+    return isinstance(node, ast.Call) and isinstance(node.func, ast.Name) and node.func.id in names
+
+
+def faults_of_walks(tree):
+    """What is to be walked on the spot, and sets, that stand elsewhere."""
+    walked, asked = [], []
+    for node in ast.walk(tree):
+        if isinstance(node, (ast.For, ast.comprehension)):
+            walked.append(node.iter)
+        if called(node, "list tuple dict sorted sum any all enumerate zip min max".split()):
+            walked += node.args if called(node, ["enumerate", "zip"]) else node.args[:1]
+        if called(node, ["sorted", "len"]):
+            asked += node.args
+        if isinstance(node, ast.Compare):
+            asked += [node.left] + node.comparators
+    asked += [side for node in asked if isinstance(node, ast.BinOp) for side in (node.left, node.right)]
+    return ([f"{node.lineno}: kept, not walked" for node in ast.walk(tree)
+             if called(node, ["zip", "enumerate", "reversed", "range"]) and node not in walked]
+            + [f"{node.lineno}: a set that is kept" for node in ast.walk(tree)
+               if (called(node, ["set", "frozenset"]) or isinstance(node, ast.Set)) and node not in asked])
+
+
+def faults_of_shared(tree):
+    """Lists and dicts of a file's top that are handed on."""
+    tops = [node.targets[0].id for node in tree.body
+            if isinstance(node, ast.Assign) and isinstance(node.value, (ast.List, ast.Dict))]
+    read = []
+    for node in ast.walk(tree):
+        if isinstance(node, (ast.Subscript, ast.Attribute)) and isinstance(node.ctx, ast.Load):
+            read.append(node.value)
+        if isinstance(node, (ast.For, ast.comprehension)):
+            read.append(node.iter)
+        if isinstance(node, ast.Compare):
+            read += node.comparators
+        if called(node, "len list tuple dict sorted enumerate zip".split()):
+            read += node.args
+    return [f"{node.lineno}: {node.id} is handed on" for node in ast.walk(tree)
+            if isinstance(node, ast.Name) and node.id in tops and isinstance(node.ctx, ast.Load) and node not in read]
+
+
+def faults_of_meanings(tree):
+    """Parameters and locals that are called like something else."""
+    taken = [name.name for node in tree.body if isinstance(node, ast.ImportFrom) for name in node.names]
+    taken += [node.name for node in tree.body if isinstance(node, ast.ClassDef)] + dir(builtins)
+    faults = []
+    for node in ast.walk(tree):
+        if isinstance(node, ast.arg) and node.arg in taken:
+            faults.append(f"{node.lineno}: {node.arg} means something else")
+        if isinstance(node, ast.Name) and isinstance(node.ctx, ast.Store) and node.id in taken:
+            faults.append(f"{node.lineno}: {node.id} means something else")
+    return faults
+
+
+def drawn_from(tree):
+    return [node.module.split(".")[-1] + ".py" for node in ast.walk(tree) if isinstance(node, ast.ImportFrom)]
+
+
+def defined_in(tree):
+    return ([node.name for node in tree.body if isinstance(node, (ast.FunctionDef, ast.ClassDef))]
+            + [node.targets[0].id for node in tree.body if isinstance(node, ast.Assign)])
+
+
 def own_methods(tree):
     return [part.name for node in ast.walk(tree) if isinstance(node, ast.ClassDef)
             for part in node.body if isinstance(part, ast.FunctionDef)]
@@ -149,6 +212,7 @@ def faults_of(text, methods=()):
         for kind, check in CHECKS:
             if isinstance(node, kind) and check(node):
                 faults.append(f"{place}: {check.__name__} of {node.__class__.__name__}")
+    faults += faults_of_walks(tree) + faults_of_shared(tree) + faults_of_meanings(tree)
     return faults + faults_of_names(tree, list(methods) + own_methods(tree))
 
 
@@ -167,6 +231,26 @@ class Form(unittest.TestCase):
             with self.subTest(name):
                 self.assertEqual([], faults_of(text, methods))
 
+    def test_names_are_drawn_from_the_file_that_defines_them_and_never_in_a_ring(self):
+        trees = {path.name: ast.parse(path.read_text()) for path in PACKAGE.glob("*.py")}
+        for name, tree in trees.items():
+            for node in tree.body:
+                if isinstance(node, ast.ImportFrom):
+                    source = trees[node.module.split(".")[-1] + ".py"]
+                    self.assertLessEqual({drawn.name for drawn in node.names}, set(defined_in(source)), name)
+        left = dict(trees)
+        while left:
+            free = [name for name, tree in left.items() if not set(drawn_from(tree)) & set(left)]
+            self.assertTrue(free, f"a ring among {sorted(left)}")
+            left = {name: tree for name, tree in left.items() if name not in free}
+
+    def test_no_name_is_a_method_and_a_value(self):
+        trees = [ast.parse(path.read_text()) for path in PACKAGE.glob("*.py")]
+        methods = {name for tree in trees for name in own_methods(tree)}
+        values = {node.attr for tree in trees for node in ast.walk(tree)
+                  if isinstance(node, ast.Attribute) and isinstance(node.ctx, ast.Store)}
+        self.assertEqual(set(), methods & values)
+
     def test_what_is_outside_the_form_is_seen(self):
         outside = ["import os", "from os import path", "from marchmend.errors import *", "x = 1.5", "x = b''",
                    "x = 1\nx = 2", "print(1)", "x = open", "# some type", "x = '\t'", "def f(*a):\n    pass",
@@ -175,7 +259,11 @@ class Form(unittest.TestCase):
                    "def f(a):\n    return a is 5", "def f(a):\n    a.sort()", "def f(_a):\n    pass",
                    "def f(a):\n    a.elements = 1", "def f(a):\n    b = c = a", "x = 1 # " + "x" * 120,
                    "def f():\n" + "    pass\n" * 40, "x = '%'", "def f():\n    while True:\n        pass\n    else:\n"
-                   "        pass", "def f():\n    try:\n        pass\n    except:\n        pass", "x = (y := 1)"]
+                   "        pass", "def f():\n    try:\n        pass\n    except:\n        pass", "x = (y := 1)",
+                   "def f(a):\n    b = zip(a, a)", "def f(a):\n    b = set(a)", "def f(a):\n    for b in set(a):\n"
+                   "        pass", "def f(a):\n    return range(a)", "def f(a):\n    sum = a", "def f(min):\n    pass",
+                   "x = {1: 2}\ndef f(a):\n    return a(x)", "x = [1]\ndef f():\n    return x",
+                   "from marchmend.errors import NoTest\ndef f(NoTest):\n    pass", "def f(a):\n    b, c = a"]
         for text in outside:
             with self.subTest(text):
                 self.assertNotEqual([], faults_of(text))
