@@ -87,3 +87,23 @@ def placed(harms, cells):
 
 def little(harms):
     return placed(harms, list(range(len(cells_of(harms)))))
+
+
+def choices_for(name, cells):
+    if name == "cell":
+        return cells
+    return (0, 1) if name == "bit" else JOININGS
+
+
+def harms_on(word, cells):
+    found = [(word,)]
+    for name in PARTS[word]:
+        longer = []
+        for harm in found:
+            longer.extend([harm + (part,) for part in choices_for(name, cells)])
+        found = longer
+    return sorted([harm for harm in found if is_harm(harm)])
+
+
+def is_of_one_cell(word):
+    return PARTS[word].count("cell") == 1

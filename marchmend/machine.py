@@ -1,5 +1,7 @@
 """How harmed cells act on what is done to them. What is handed in here was looked at by the callers."""
 
+from marchmend.harms import cells_of, little
+
 
 def stuck_bit(harms, cell):
     for harm in harms:
@@ -103,3 +105,62 @@ def deeds(order, steps, size):
         for place, step in enumerate(steps):
             found.append((address, place, step))
     return found
+
+
+def taken_for(order):
+    return ["up", "down"] if order == "any" else [order]
+
+
+def all_contents(count):
+    found = [()]
+    for turn in range(count):
+        found = [(0,) + contents for contents in found] + [(1,) + contents for contents in found]
+    return found
+
+
+def stepped(harms, contents, address, step):
+    cells = list(contents)
+    if step[0] == "w":
+        write_at(harms, cells, address, step[1])
+    elif read_at(harms, cells, address) != step[1]:
+        return None
+    return tuple(cells)
+
+
+class Little:
+    # A memory of few cells, whose contents are tuples. The same step is asked for of the
+    # same contents again and again, so what came of each is kept.
+    def __init__(self, harms, span):
+        self.harms = list(harms)
+        self.span = span
+        self.found = {}
+
+    def firsts(self):
+        # All that it can hold at first, each with contents of which it is then made:
+        # with the very same where these stand.
+        made = {}
+        for contents in all_contents(self.span):
+            cells = list(contents)
+            settle(self.harms, cells)
+            held = tuple(cells)
+            if held not in made or held == contents:
+                made[held] = contents
+        return made
+
+    def done(self, contents, address, step):
+        # None where another bit is read than is to come.
+        asked = (contents, address, step)
+        if asked not in self.found:
+            self.found[asked] = stepped(self.harms, contents, address, step)
+        return self.found[asked]
+
+    def gone_over(self, contents, order, steps):
+        for address, place, step in deeds(order, steps, self.span):
+            contents = self.done(contents, address, step)
+            if contents is None:
+                return None
+        return contents
+
+
+def little_memory(harms):
+    return Little(little(harms), len(cells_of(harms)))

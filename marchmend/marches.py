@@ -1,6 +1,6 @@
 """Tests that go over a memory: what is one, whether it is sure, and how long it is."""
 
-from marchmend.errors import NoTest
+from marchmend.errors import NoTest, NotSure
 
 ORDERS = ("up", "down", "any")
 LETTERS = ("r", "w")
@@ -72,6 +72,11 @@ def is_sure(test):
         elif step[1] != known:
             return False
     return True
+
+
+def look_at_sure(test):
+    if not is_sure(test):
+        raise NotSure("a sound memory may read another bit than is to come")
 
 
 def length_of(test):

@@ -1,5 +1,7 @@
 """A harmed memory told once more, in another way than the program does, to hold the program against it."""
 
+import itertools
+
 
 class Plain:
     """Keeps, for each cell and each address, what the harms say of it, looked up once."""
@@ -63,3 +65,128 @@ class Plain:
 
     def holds(self):
         return [self.cells[cell] for cell in sorted(self.cells)]
+
+
+def orders_of(test):
+    """All orders for a test."""
+    free = [("up", "down") if order == "any" else (order,) for order, steps in test]
+    return [list(orders) for orders in itertools.product(*free)]
+
+
+def way_of(order, size):
+    return range(size) if order == "up" else range(size - 1, -1, -1)
+
+
+def plain_reads(test, size, harms, contents, orders):
+    """All reads as (element, address, step, bit)."""
+    memory = Plain(size, harms, contents)
+    told = []
+    for number, (order, steps) in enumerate(test):
+        for address in way_of(orders[number], size):
+            for place, (letter, bit) in enumerate(steps):
+                if letter == "w":
+                    memory.write(address, bit)
+                else:
+                    told.append((number, address, place, memory.read(address)))
+    return told
+
+
+def plainly_shows(test, size, harms, contents, orders):
+    return any(bit != test[element][1][step][1]
+               for element, address, step, bit in plain_reads(test, size, harms, contents, orders))
+
+
+def all_bits(size):
+    return [list(contents) for contents in itertools.product((0, 1), repeat=size)]
+
+
+def plainly_told(test, size, harms):
+    """Whether in a memory of this size something shows, whatever its contents and orders."""
+    return all(plainly_shows(test, size, harms, contents, orders)
+               for contents in all_bits(size) for orders in orders_of(test))
+
+
+def standing(size, harms, contents):
+    """A memory that holds just these contents, whatever stands at first."""
+    memory = Plain(size, harms, contents)
+    memory.cells = dict(enumerate(contents))
+    return memory
+
+
+def led_to(size, harms, contents, address, step):
+    """What stands behind a step, None where it shows something."""
+    memory = standing(size, harms, contents)
+    if step[0] == "w":
+        memory.write(address, step[1])
+    elif memory.read(address) != step[1]:
+        return None
+    return tuple(memory.holds())
+
+
+def firsts_of(size, harms):
+    return sorted({tuple(Plain(size, harms, contents).holds()) for contents in all_bits(size)})
+
+
+def plain_table(test, size, harms):
+    """The table with just what comes so, and what comes behind the last step."""
+    table = []
+    ahead = firsts_of(size, harms)
+    for order, steps in test:
+        behind = set()
+        columns = []
+        for taken in ("up", "down"):
+            if order not in (taken, "any"):
+                columns.append(None)
+                continue
+            lists = [ahead]
+            for address in way_of(taken, size):
+                for step in steps:
+                    found = {led_to(size, harms, contents, address, step) for contents in lists[-1]}
+                    lists.append(sorted(found - {None}))
+            behind |= set(lists.pop())
+            columns.append(lists)
+        table.append((ahead, columns[0], columns[1]))
+        ahead = sorted(behind)
+    return table, ahead
+
+
+def parts_of(test, size, table):
+    """All (list, step at an address, the list that it leads to) of a table in the right form; None as the last."""
+    parts = []
+    for number, (order, steps) in enumerate(test):
+        behind = table[number + 1][0] if number + 1 < len(test) else None
+        for taken, column in (("up", table[number][1]), ("down", table[number][2])):
+            if column is not None:
+                done = [(address, step) for address in way_of(taken, size) for step in steps]
+                for (address, step), ahead, after in zip(done, column, column[1:] + [behind]):
+                    parts.append((ahead, address, step, after))
+    return parts
+
+
+def plainly_lets(test, size, harms, table):
+    """Whether a table in the right form is let by."""
+    for row in table:
+        if any(column is not None and not set(row[0]) <= set(column[0]) for column in row[1:]):
+            return False
+    if not set(firsts_of(size, harms)) <= set(table[0][0]):
+        return False
+    return all(led_to(size, harms, contents, address, step) in [None] + (after or [])
+               for ahead, address, step, after in parts_of(test, size, table) for contents in ahead)
+
+
+def close(test, size, harms, table):
+    """Puts into a table what has to stand there, and tells whether something comes behind the last step."""
+    while True:
+        added, over = False, False
+        pairs = [(contents, column[0]) for row in table for column in row[1:] if column is not None
+                 for contents in row[0]]
+        pairs += [(led_to(size, harms, contents, address, step), after)
+                  for ahead, address, step, after in parts_of(test, size, table) for contents in ahead]
+        for contents, wanted in pairs:
+            if contents is not None and wanted is None:
+                over = True
+            elif contents is not None and contents not in wanted:
+                wanted.append(contents)
+                added = True
+        if not added:
+            return over

@@ -7,32 +7,11 @@ from marchmend.harms import cells_of, little, placed
 from marchmend.memory import Memory
 from marchmend.running import first_shown, reads_of, run_on
 from marchmend.texts import read
-from plain import Plain
+from plain import orders_of, plain_reads
 from samples import (Case, Odd, all_on, eight_by_six, march_c, of_any_kind, one_of_each_sort,
                      things_that_are_no_test)
 
 SHORT = "any w0; up r0 w1; down r1"
-
-
-def orders_of(test):
-    """All orders for a test."""
-    free = [("up", "down") if order == "any" else (order,) for order, steps in test]
-    return [list(orders) for orders in itertools.product(*free)]
-
-
-def plain_reads(test, size, harms, contents, orders):
-    """What is read, told apart from the program."""
-    memory = Plain(size, harms, contents)
-    told = []
-    for number, (order, steps) in enumerate(test):
-        addresses = range(size) if orders[number] == "up" else range(size - 1, -1, -1)
-        for address in addresses:
-            for place, (letter, bit) in enumerate(steps):
-                if letter == "w":
-                    memory.write(address, bit)
-                else:
-                    told.append((number, address, place, memory.read(address)))
-    return told
 
 
 class WithoutHarms(unittest.TestCase):
