@@ -1,5 +1,6 @@
 """A harmed memory told once more, in another way than the program does, to hold the program against it."""
 
+import functools
 import itertools
 
 
@@ -190,3 +191,72 @@ def close(test, size, harms, table):
                 added = True
         if not added:
             return over
+
+
+def span_of(harm):
+    """How many cells a harm of cells 0 and 1 has."""
+    return 1 if harm[0] in ("stuck", "slow", "forgets", "misreads", "nowhere") else 2
+
+
+def plain_first_stand(harms):
+    return (None, tuple(tuple(firsts_of(span_of(harm), [harm])) for harm in harms))
+
+
+@functools.lru_cache(maxsize=None)
+def behind_element(harm, contents, order, steps):
+    for address in way_of(order, span_of(harm)):
+        for step in steps:
+            contents = led_to(span_of(harm), [harm], contents, address, step)
+            if contents is None:
+                return None
+    return contents
+
+
+def plain_stand_behind(harms, stand, order, steps):
+    known, lists = stand
+    for letter, bit in steps:
+        known = bit if letter == "w" else known
+    behind = [{behind_element(harm, contents, order, tuple(steps)) for contents in standing} - {None}
+              for harm, standing in zip(harms, lists)]
+    return (known, tuple(tuple(sorted(found)) for found in behind))
+
+
+@functools.lru_cache(maxsize=None)
+def sure_steps(known, count):
+    """All tuples of just so many steps whose reads are sure by known."""
+    if count == 0:
+        return [()]
+    heads = [(("w", 0), 0), (("w", 1), 1)] + ([] if known is None else [(("r", known), known)])
+    return [(step,) + rest for step, then in heads for rest in sure_steps(then, count - 1)]
+
+
+def plainly_lets_numbers(harms, length, rows):
+    """Whether numbers of stands in the right form are let by."""
+    numbers = dict(rows)
+    if len(numbers) < len(rows) or numbers.get(plain_first_stand(harms)) != 0:
+        return False
+    for stand, number in rows:
+        if number < length and not any(stand[1]):
+            return False
+        for count in range(1, length - number):
+            for order, steps in itertools.product(("up", "down"), sure_steps(stand[0], count)):
+                behind = plain_stand_behind(harms, stand, order, steps)
+                if numbers.get(behind, length) > number + count:
+                    return False
+    return True
+
+
+def tests_of(length, known=None):
+    """All sure tests without any of just so many steps."""
+    if length == 0:
+        yield []
+    for count in range(1, length + 1):
+        for steps in sure_steps(known, count):
+            then = [known] + [bit for letter, bit in steps if letter == "w"]
+            for rest in tests_of(length - count, then[-1]):
+                for order in ("up", "down"):
+                    yield [(order, list(steps))] + rest
+
+
+def plainly_tells(test, harms):
+    return all(plainly_told(test, span_of(harm), [harm]) for harm in harms)

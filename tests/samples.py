@@ -8,6 +8,20 @@ import marchmend.errors
 STEPS = [("r", 0), ("r", 1), ("w", 0), ("w", 1)]
 ORDERS = ["up", "down", "any"]
 ONE_CELL = ("stuck", "slow", "forgets", "misreads", "nowhere")
+BY_KIND = {
+    "stuck": [("stuck", 0, 0), ("stuck", 0, 1)],
+    "slow": [("slow", 0, 0), ("slow", 0, 1)],
+    "forgets": [("forgets", 0, 0), ("forgets", 0, 1)],
+    "misreads": [("misreads", 0, 0), ("misreads", 0, 1)],
+    "turns": [("turns", 0, 1, 0), ("turns", 0, 1, 1), ("turns", 1, 0, 0), ("turns", 1, 0, 1)],
+    "sets": [("sets", 0, 1, 0, 0), ("sets", 0, 1, 0, 1), ("sets", 0, 1, 1, 0), ("sets", 0, 1, 1, 1),
+             ("sets", 1, 0, 0, 0), ("sets", 1, 0, 0, 1), ("sets", 1, 0, 1, 0), ("sets", 1, 0, 1, 1)],
+    "keeps": [("keeps", 0, 1, 0, 0), ("keeps", 0, 1, 0, 1), ("keeps", 0, 1, 1, 0), ("keeps", 0, 1, 1, 1),
+              ("keeps", 1, 0, 0, 0), ("keeps", 1, 0, 0, 1), ("keeps", 1, 0, 1, 0), ("keeps", 1, 0, 1, 1)],
+    "nowhere": [("nowhere", 0, 0), ("nowhere", 0, 1)],
+    "other": [("other", 0, 1), ("other", 1, 0)],
+    "both": [("both", 0, 1, "and"), ("both", 0, 1, "or"), ("both", 1, 0, "and"), ("both", 1, 0, "or")],
+}
 
 
 class Odd:
@@ -76,6 +90,21 @@ def all_on(cells):
                 found += [("turns", a, b, 0), ("turns", a, b, 1)]
                 found += [(word, a, b, u, v) for word in ("sets", "keeps") for u in (0, 1) for v in (0, 1)]
     return found
+
+
+def drawn_broken(source, count, span=12):
+    """So many broken cells (or all there are), drawn in one of several ways: strewn, in a corner, in rows and lines."""
+    rows, lines = range(span), range(span)
+    way = source.randrange(3)
+    if way == 1:
+        while len(rows) * len(lines) > max(2 * count, 1):
+            rows, lines = (rows[1:], lines) if source.random() < 0.5 else (rows, lines[1:])
+    cells = [(row, line) for row in rows for line in lines]
+    if way == 2:
+        heavy = source.sample(range(span), span // 3), source.sample(range(span), span // 3)
+        some = [cell for cell in cells if cell[0] in heavy[0] or cell[1] in heavy[1]]
+        cells = some if len(some) >= count else cells
+    return sorted(source.sample(cells, min(count, len(cells))))
 
 
 class Case(unittest.TestCase):

@@ -5,24 +5,10 @@ from marchmend.errors import NoKind, NotSure, NoTest
 from marchmend.kinds import KINDS, harms_of, let_by, told_kinds
 from marchmend.texts import read
 from plain import plainly_told
-from samples import Case, march_c, of_any_kind, things_that_are_no_test
+from samples import BY_KIND, Case, march_c, of_any_kind, things_that_are_no_test
 
 THREE_PARTS = "any w0; up r0 w1; down r1 w0"
 
-BY_KIND = {
-    "stuck": [("stuck", 0, 0), ("stuck", 0, 1)],
-    "slow": [("slow", 0, 0), ("slow", 0, 1)],
-    "forgets": [("forgets", 0, 0), ("forgets", 0, 1)],
-    "misreads": [("misreads", 0, 0), ("misreads", 0, 1)],
-    "turns": [("turns", 0, 1, 0), ("turns", 0, 1, 1), ("turns", 1, 0, 0), ("turns", 1, 0, 1)],
-    "sets": [("sets", 0, 1, 0, 0), ("sets", 0, 1, 0, 1), ("sets", 0, 1, 1, 0), ("sets", 0, 1, 1, 1),
-             ("sets", 1, 0, 0, 0), ("sets", 1, 0, 0, 1), ("sets", 1, 0, 1, 0), ("sets", 1, 0, 1, 1)],
-    "keeps": [("keeps", 0, 1, 0, 0), ("keeps", 0, 1, 0, 1), ("keeps", 0, 1, 1, 0), ("keeps", 0, 1, 1, 1),
-              ("keeps", 1, 0, 0, 0), ("keeps", 1, 0, 0, 1), ("keeps", 1, 0, 1, 0), ("keeps", 1, 0, 1, 1)],
-    "nowhere": [("nowhere", 0, 0), ("nowhere", 0, 1)],
-    "other": [("other", 0, 1), ("other", 1, 0)],
-    "both": [("both", 0, 1, "and"), ("both", 0, 1, "or"), ("both", 1, 0, "and"), ("both", 1, 0, "or")],
-}
 NO_KINDS = [thing for thing in of_any_kind() if not isinstance(thing, str) or thing != "stuck"] + [
     "Stuck", "stuck ", " slow", "sticks", "turn", "any", ["stuck"], ("stuck",), ("stuck", 0, 1), {"stuck": 1}, b"stuck"]
 TESTS = [THREE_PARTS, "any w0; any r0", "any w1; any r1 w0; any r0", "any w0; up r0 w1 r1; down r1 w0 r0", "any w0 w1",
