@@ -1,1 +1,1 @@
-"""Marchmend: tests that go over a memory, and what they tell."""
+"""Marchmend: tests that go over a memory, what they tell at every size, and spares for what is broken."""

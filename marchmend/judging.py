@@ -32,32 +32,41 @@ def table_of(memory, test):
     return table
 
 
-def ways_behind(memory, element, ways):
-    behind = {}
-    for order in taken_for(element[0]):
-        for contents in ways:
-            held = memory.gone_over(contents, order, element[1])
-            if held is not None and held not in behind:
-                behind[held] = (ways[contents][0], ways[contents][1] + [order])
-    return behind
-
-
-def ways_through(memory, test):
-    # All that may stand at the end, nothing having shown, each with first contents and orders that lead to it.
+def first_ways(memory):
+    # Ways tell of all that may stand, nothing having shown: of each, first contents and orders that lead to it.
     firsts = memory.firsts()
     ways = {}
     for held in firsts:
         ways[held] = (firsts[held], [])
-    for element in test:
-        ways = ways_behind(memory, element, ways)
-    return list(ways.values())
+    return ways
+
+
+def ways_behind(ways, order, goes):
+    # goes tells what comes of what stands by an order that is taken, None where something shows.
+    behind = {}
+    for taken in taken_for(order):
+        for standing in ways:
+            led_there = goes(standing, taken)
+            if led_there is not None and led_there not in behind:
+                behind[led_there] = (ways[standing][0], ways[standing][1] + [taken])
+    return behind
+
+
+def ways_over(memory, element, ways):
+    return ways_behind(ways, element[0], lambda contents, order: memory.gone_over(contents, order, element[1]))
+
+
+def one_of_ways(ways):
+    return list(ways.values())[0]
 
 
 def judged(test, harms):
     look_at_asked(test, harms)
     memory = little_memory(harms)
-    ways = ways_through(memory, test)
+    ways = first_ways(memory)
+    for element in test:
+        ways = ways_over(memory, element, ways)
     if len(ways) == 0:
         return ("told", table_of(memory, test))
-    way = ways[0]
+    way = one_of_ways(ways)
     return ("let", way[0], way[1])

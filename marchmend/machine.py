@@ -107,6 +107,10 @@ def deeds(order, steps, size):
     return found
 
 
+def doings_of(order, steps, size):
+    return [(address, step) for address, place, step in deeds(order, steps, size)]
+
+
 def taken_for(order):
     return ["up", "down"] if order == "any" else [order]
 
@@ -135,14 +139,17 @@ class Little:
         self.span = span
         self.found = {}
 
+    def made_of(self, contents):
+        cells = list(contents)
+        settle(self.harms, cells)
+        return tuple(cells)
+
     def firsts(self):
         # All that it can hold at first, each with contents of which it is then made:
         # with the very same where these stand.
         made = {}
         for contents in all_contents(self.span):
-            cells = list(contents)
-            settle(self.harms, cells)
-            held = tuple(cells)
+            held = self.made_of(contents)
             if held not in made or held == contents:
                 made[held] = contents
         return made
@@ -154,12 +161,15 @@ class Little:
             self.found[asked] = stepped(self.harms, contents, address, step)
         return self.found[asked]
 
-    def gone_over(self, contents, order, steps):
-        for address, place, step in deeds(order, steps, self.span):
+    def gone_through(self, contents, doings):
+        for address, step in doings:
             contents = self.done(contents, address, step)
             if contents is None:
                 return None
         return contents
+
+    def gone_over(self, contents, order, steps):
+        return self.gone_through(contents, doings_of(order, steps, self.span))
 
 
 def little_memory(harms):

@@ -61,6 +61,14 @@ def steps_of(test):
     return steps
 
 
+def held_behind(held, steps):
+    # What a sound cell holds behind the steps; held may be None, where it is not known.
+    for step in steps:
+        if step[0] == "w":
+            held = step[1]
+    return held
+
+
 def is_sure(test):
     # In a sound memory no cell acts on another, and each gets all steps in the order
     # of the test, whatever orders are taken: so one cell stands for all of them.

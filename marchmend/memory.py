@@ -24,6 +24,11 @@ def look_at_memory(size, harms, contents):
         raise NoMemory("the contents are no list of as many bits as the size tells")
 
 
+def look_at_bit(thing):
+    if not is_bit(thing):
+        raise NoBit("only 0 or 1 can be written")
+
+
 class Memory:
     def __init__(self, size, harms, contents):
         look_at_memory(size, harms, contents)
@@ -41,8 +46,7 @@ class Memory:
 
     def write(self, address, bit):
         self.look_at_address(address)
-        if not is_bit(bit):
-            raise NoBit("only 0 or 1 can be written")
+        look_at_bit(bit)
         write_at(self.harms, self.cells, address, bit)
 
     def holds(self):

@@ -22,14 +22,6 @@ def deeds_heard(test, size, orders, reads):
     return heard if len(left) == 0 else None
 
 
-def goes_unshown(memory, contents, heard):
-    for address, step in heard:
-        contents = memory.done(contents, address, step)
-        if contents is None:
-            return False
-    return True
-
-
 def contents_at(heard, cells, harms):
     # What is read at the cells of the harms hangs on these alone, and so does what is read at each
     # sound cell: they are gone through by themselves, never all first contents of the whole memory.
@@ -37,7 +29,7 @@ def contents_at(heard, cells, harms):
     own = [(cells.index(address), step) for address, step in heard if address in cells]
     firsts = memory.firsts()
     for held in firsts:
-        if goes_unshown(memory, held, own):
+        if memory.gone_through(held, own) is not None:
             return firsts[held]
     return None
 

@@ -33,8 +33,7 @@ class Search:
 
 
 def shortest(kinds, most):
-    way = Search(kinds).way_to_over(most)
-    return None if way is None else [(order, list(steps)) for order, steps in way]
+    return Search(kinds).way_to_over(most)
 
 
 def numbers_for(kinds, length):

@@ -2,7 +2,7 @@
 
 from marchmend.kinds import harms_of
 from marchmend.machine import little_memory
-from marchmend.marches import MOST_IN_ELEMENT, is_bit, is_pair, is_whole
+from marchmend.marches import MOST_IN_ELEMENT, held_behind, is_bit, is_pair, is_whole
 from marchmend.running import TAKEN
 from marchmend.tables import are_contents
 
@@ -12,13 +12,6 @@ def memories_of(kinds):
     for kind in kinds:
         memories.extend([little_memory([harm]) for harm in harms_of(kind)])
     return memories
-
-
-def known_behind(known, steps):
-    for step in steps:
-        if step[0] == "w":
-            known = step[1]
-    return known
 
 
 def steps_from(known):
@@ -33,7 +26,7 @@ def step_lists(known, most):
     for turn in range(min(most, MOST_IN_ELEMENT)):
         longer = []
         for steps in longest:
-            longer.extend([steps + [step] for step in steps_from(known_behind(known, steps))])
+            longer.extend([steps + [step] for step in steps_from(held_behind(known, steps))])
         found.extend(longer)
         longest = longer
     return found
@@ -70,7 +63,7 @@ class Stands:
             if place not in found:
                 found[place] = self.list_behind(place[0], place[1], element)
             lists.append(found[place])
-        return (known_behind(stand[0], element[1]), tuple(lists))
+        return (held_behind(stand[0], element[1]), tuple(lists))
 
 
 def first_stand(kinds):

@@ -6,12 +6,16 @@ from marchmend.machine import deeds, little_memory, stuck_bit, taken_for
 from marchmend.marches import is_bit, look_at_sure, look_at_test
 
 
+def look_at_some(harms):
+    if len(harms) == 0:
+        raise NoHarms(None)
+
+
 def look_at_asked(test, harms):
     look_at_test(test)
     look_at_harms(harms)
     look_at_sure(test)
-    if len(harms) == 0:
-        raise NoHarms(None)
+    look_at_some(harms)
 
 
 def are_contents(memory, thing):

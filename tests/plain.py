@@ -260,3 +260,50 @@ def tests_of(length, known=None):
 
 def plainly_tells(test, harms):
     return all(plainly_told(test, span_of(harm), [harm]) for harm in harms)
+
+
+def in_word_order(order, words, width, steps):
+    """(cell, bit of its word, step) as a step goes over a word, then the next step, then the next word."""
+    return [(word * width + bit, bit, step) for word in way_of(order, words) for step in steps for bit in range(width)]
+
+
+def plain_words_reads(test, width, backgrounds, words, harms, contents, orders):
+    """All reads over words as (bit that was read, bit that was to come)."""
+    memory = Plain(words * width, harms, contents)
+    told = []
+    for background, taken in zip(backgrounds, orders):
+        for (order, steps), way in zip(test, taken):
+            for cell, bit, (letter, asked) in in_word_order(way, words, width, steps):
+                meant = asked ^ int(background[bit])
+                if letter == "w":
+                    memory.write(cell, meant)
+                else:
+                    told.append((memory.read(cell), meant))
+    return told
+
+
+def plainly_shows_in_words(*given):
+    return any(read != meant for read, meant in plain_words_reads(*given))
+
+
+def word_orders_of(test, backgrounds):
+    return [list(orders) for orders in itertools.product(orders_of(test), repeat=len(backgrounds))]
+
+
+def plain_leaving_reads(test, size, harms, contents, orders):
+    """For each address all its reads, turned back."""
+    memory = Plain(size, harms, contents)
+    told = {address: [] for address in range(size)}
+    for (order, steps), way in zip(test, orders):
+        for address in way_of(way, size):
+            for letter, turn in steps:
+                if letter == "w":
+                    memory.write(address, contents[address] ^ turn)
+                else:
+                    told[address].append(memory.read(address) ^ turn)
+    return told, memory.holds()
+
+
+def plain_leaving_shown(test, size, harms, contents, orders):
+    told, held = plain_leaving_reads(test, size, harms, contents, orders)
+    return next((address for address in range(size) if len(set(told[address])) > 1), None)

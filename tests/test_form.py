@@ -22,6 +22,12 @@ METHODS = """append clear copy count endswith extend find get index insert isaln
     rstrip setdefault split splitlines startswith strip update upper values zfill bit_length""".split()
 DUNDERS = ("__init__", "__eq__", "__repr__", "__str__", "__len__")
 NEVER = ("register", "mro", "elements", "open", "input", "version_info", "with_traceback", "add_note")
+NOT_AS_NAMES = """attrgetter breakpoint builtins compile copyright credits delattr dir eval exec exit gc getattr globals
+    hasattr help id importlib license locals methodcaller os quit setattr super type vars sys __name__""".split()
+KEYWORDS = {"sorted": ("key", "reverse"), "min": ("key", "default"), "max": ("key", "default"), "sum": ("start",),
+            "enumerate": ("start",), "zip": ("strict",)}
+CHANGING = "append clear extend insert pop remove reverse setdefault update".split()
+OWN = [name for sort in (str, int, list, dict, set, bytes) for name in dir(sort)] + ["args"]
 WORDS = re.compile(r"\b(type|typing|typing_extensions|enum|Enum|IntEnum|StrEnum|Flag|IntFlag|Generic|Protocol|ABC"
                    r"|ABCMeta|namedtuple|NamedTuple|TypedDict|TYPE_CHECKING|abstractmethod)\b"
                    r"|dataclass|overload|contextmanager")
@@ -87,7 +93,12 @@ def fault_of_other(node):
     if isinstance(node, ast.ListComp):
         return len(node.generators) != 1 or len(node.generators[0].ifs) > 1
     if isinstance(node, ast.BinOp):
-        return isinstance(node.op, (ast.Div, ast.MatMult))
+        return (isinstance(node.op, (ast.Div, ast.MatMult))
+                or isinstance(node.op, ast.Pow) and not isinstance(node.right, ast.Constant))
+    if isinstance(node, ast.Name):
+        return node.id in NOT_AS_NAMES
+    if isinstance(node, ast.Set):
+        return len(node.elts) > 2
     if isinstance(node, (ast.arg, ast.FunctionDef)):
         return bool(getattr(node, "annotation", None) or getattr(node, "returns", None))
     return False
@@ -185,6 +196,58 @@ def faults_of_meanings(tree):
     return faults
 
 
+def faults_of_views(tree):
+    """What a dict tells of itself, kept and not walked."""
+    walked = []
+    for node in ast.walk(tree):
+        if isinstance(node, (ast.For, ast.comprehension)):
+            walked.append(node.iter)
+        if called(node, "list tuple dict sorted sum any all enumerate zip min max".split()):
+            walked += node.args[:1]
+    return [f"{node.lineno}: kept, not walked" for node in ast.walk(tree)
+            if isinstance(node, ast.Call) and isinstance(node.func, ast.Attribute)
+            and node.func.attr in ("items", "keys", "values") and node not in walked]
+
+
+def faults_of_keywords(tree):
+    return [f"{node.lineno}: a keyword" for node in ast.walk(tree) if isinstance(node, ast.Call)
+            for part in node.keywords if not isinstance(node.func, ast.Name)
+            or part.arg not in KEYWORDS.get(node.func.id, ())]
+
+
+def faults_of_tops(tree):
+    """Lists and dicts within such at a file's top, and defs or values that are called as none may be."""
+    faults = [f"{node.lineno}: a list within" for node in tree.body if isinstance(node, ast.Assign)
+              and isinstance(node.value, (ast.List, ast.Dict))
+              and any(isinstance(part, (ast.List, ast.Dict)) for part in ast.walk(node.value) if part is not node.value)]
+    faults += [f"{node.lineno}: .{node.attr}" for node in ast.walk(tree) if isinstance(node, ast.Attribute)
+               and isinstance(node.ctx, ast.Store) and node.attr in OWN]
+    rows = [node.lineno for node in ast.walk(tree) if isinstance(node, ast.Lambda)]
+    return faults + [f"{row}: two lambdas" for row in rows if rows.count(row) > 1]
+
+
+def faults_of_changes(tree):
+    """What a loop walks, changed in it."""
+    faults = []
+    for loop in ast.walk(tree):
+        if isinstance(loop, ast.For):
+            walked = loop.iter
+            if isinstance(walked, ast.Call) and called(walked, ["enumerate", "zip", "reversed"]):
+                walked = walked.args[0]
+            elif isinstance(walked, ast.Call) and isinstance(walked.func, ast.Attribute):
+                walked = walked.func.value
+            for node in [part for row in loop.body for part in ast.walk(row)]:
+                if isinstance(node, ast.Call) and isinstance(node.func, ast.Attribute) and node.func.attr in CHANGING:
+                    changed = node.func.value
+                elif isinstance(node, ast.Subscript) and isinstance(node.ctx, ast.Store):
+                    changed = node.value
+                else:
+                    continue
+                if ast.dump(changed) == ast.dump(walked):
+                    faults.append(f"{node.lineno}: changed as it is walked")
+    return faults
+
+
 def drawn_from(tree):
     return [node.module.split(".")[-1] + ".py" for node in ast.walk(tree) if isinstance(node, ast.ImportFrom)]
 
@@ -212,7 +275,8 @@ def faults_of(text, methods=()):
         for kind, check in CHECKS:
             if isinstance(node, kind) and check(node):
                 faults.append(f"{place}: {check.__name__} of {node.__class__.__name__}")
-    faults += faults_of_walks(tree) + faults_of_shared(tree) + faults_of_meanings(tree)
+    faults += faults_of_walks(tree) + faults_of_shared(tree) + faults_of_meanings(tree) + faults_of_views(tree)
+    faults += faults_of_keywords(tree) + faults_of_tops(tree) + faults_of_changes(tree)
     return faults + faults_of_names(tree, list(methods) + own_methods(tree))
 
 
@@ -263,7 +327,13 @@ class Form(unittest.TestCase):
                    "def f(a):\n    b = zip(a, a)", "def f(a):\n    b = set(a)", "def f(a):\n    for b in set(a):\n"
                    "        pass", "def f(a):\n    return range(a)", "def f(a):\n    sum = a", "def f(min):\n    pass",
                    "x = {1: 2}\ndef f(a):\n    return a(x)", "x = [1]\ndef f():\n    return x",
-                   "from marchmend.errors import NoTest\ndef f(NoTest):\n    pass", "def f(a):\n    b, c = a"]
+                   "from marchmend.errors import NoTest\ndef f(NoTest):\n    pass", "def f(a):\n    b, c = a",
+                   "def f(a):\n    b = a.items()", "def f(a):\n    return a.values()", "x = [[1]]", "x = {1: {2: 3}}",
+                   "def f(a):\n    return 2 ** a", "def f(a):\n    return a(b=1)", "def f(a):\n    return a in {1, 2, 3}",
+                   "def f(a):\n    a.values = 1", "def f(a):\n    return [lambda b: b, lambda b: b]", "def f(a):\n"
+                   "    for b in a:\n        a.append(b)", "def f(a):\n    for b in list(a):\n        pass\n    for b in"
+                   " enumerate(a):\n        a[0] = b", "def f(a):\n    return vars(a)",
+                   "def f(a):\n    return sorted(a, b=1)"]
         for text in outside:
             with self.subTest(text):
                 self.assertNotEqual([], faults_of(text))

@@ -294,6 +294,9 @@ class NotLetBy(Numbers):
             self.refuses(["stuck"], 1, [(FIRST, thing)])
             self.refuses(["stuck"], 1, [(FIRST, 0), (AT_0, thing)])
             self.refuses(["stuck"], 2, [(FIRST, 0), (AT_0, thing), (AT_1, 1)])
+        # All that this leads to is there, and yet it is below 0.
+        self.lets(["stuck"], 2, [(FIRST, 0), (AT_0, 0), (NOT_1, 1), (AT_1, 1)])
+        self.refuses(["stuck"], 1, [(FIRST, 0), (AT_0, -1), (NOT_1, 0), (AT_1, 0)])
 
     def test_things_in_the_place_of_a_stand(self):
         things = of_any_kind() + [None, FIRST[1], list(FIRST), (None,), FIRST + (0,), (None, None), (0, 0),
